@@ -1,0 +1,80 @@
+// Package missive: letters that only some can read, and one can have written: see DOC.md.
+package missive
+
+import (
+	"missive/api"
+	"missive/digest"
+)
+
+// Digest tells a digest (P2).
+func Digest(data string) (string, api.Errno) {
+	if tooLong(api.MaxData, data) {
+		return "", api.ErrSize
+	}
+	return digest.Of(data), api.OK
+}
+
+// Mac tells a mac (P2).
+func Mac(key string, data string) (string, api.Errno) {
+	if tooLong(api.MaxData, key, data) {
+		return "", api.ErrSize
+	}
+	return digest.Mac(key, data), api.OK
+}
+
+// Derive derives bytes (P2).
+func Derive(secret string, salt string, purpose string, n int) (string, api.Errno) {
+	if tooLong(api.MaxData, secret, salt, purpose) || n < 0 || n > api.MaxDerived {
+		return "", api.ErrSize
+	}
+	return digest.Derive(secret, salt, purpose, n), api.OK
+}
+
+// Close closes data (P3).
+func Close(key string, nonce string, title string, data string) (string, api.Errno) {
+	return "", api.OK
+}
+
+// Unclose tells what was closed (P3).
+func Unclose(key string, nonce string, title string, closed string) (string, api.Errno) {
+	return "", api.OK
+}
+
+// Public tells a public key (P4).
+func Public(secret string) (string, api.Errno) { return "", api.OK }
+
+// Agree tells what two agree upon (P4).
+func Agree(secret string, point string) (string, api.Errno) { return "", api.OK }
+
+// Identity tells an identity (P5).
+func Identity(seed string) (string, api.Errno) { return "", api.OK }
+
+// Sign signs data (P5).
+func Sign(seed string, data string) (string, api.Errno) { return "", api.OK }
+
+// Verify tells whether a signature is right (P5).
+func Verify(identity string, data string, signature string) bool { return false }
+
+// Seal seals a letter (P6).
+func Seal(seed string, readers []string, dice string, data string) (string, api.Errno) {
+	return "", api.OK
+}
+
+// Open opens a letter (P7).
+func Open(secret string, letter string) (api.Letter, api.Errno) { return api.Letter{}, api.OK }
+
+// Write writes a letter as a text (P8).
+func Write(bytes string) (string, api.Errno) { return "", api.OK }
+
+// Read reads a letter's text (P8).
+func Read(text string) (string, int, api.Errno) { return "", 0, api.OK }
+
+// tooLong tells whether one of the texts has more bytes than the limit.
+func tooLong(limit int, texts ...string) bool {
+	for _, text := range texts {
+		if len(text) > limit {
+			return true
+		}
+	}
+	return false
+}
