@@ -3,6 +3,7 @@ package missive
 
 import (
 	"missive/api"
+	"missive/cipher"
 	"missive/digest"
 )
 
@@ -32,12 +33,22 @@ func Derive(secret string, salt string, purpose string, n int) (string, api.Errn
 
 // Close closes data (P3).
 func Close(key string, nonce string, title string, data string) (string, api.Errno) {
-	return "", api.OK
+	if cannotClose(key, nonce, title) || tooLong(api.MaxLetter, data) {
+		return "", api.ErrSize
+	}
+	return cipher.Close(key, nonce, title, data), api.OK
 }
 
 // Unclose tells what was closed (P3).
 func Unclose(key string, nonce string, title string, closed string) (string, api.Errno) {
-	return "", api.OK
+	if cannotClose(key, nonce, title) || len(closed) < api.TagSize || tooLong(api.MaxLetter+api.TagSize, closed) {
+		return "", api.ErrSize
+	}
+	data, right := cipher.Unclose(key, nonce, title, closed)
+	if !right {
+		return "", api.ErrTag
+	}
+	return data, api.OK
 }
 
 // Public tells a public key (P4).
@@ -68,6 +79,11 @@ func Write(bytes string) (string, api.Errno) { return "", api.OK }
 
 // Read reads a letter's text (P8).
 func Read(text string) (string, int, api.Errno) { return "", 0, api.OK }
+
+// cannotClose tells whether the size of one of them is such that no data is closed with it.
+func cannotClose(key string, nonce string, title string) bool {
+	return len(key) != api.KeySize || len(nonce) != api.NonceSize || tooLong(api.MaxLetter, title)
+}
 
 // tooLong tells whether one of the texts has more bytes than the limit.
 func tooLong(limit int, texts ...string) bool {
