@@ -2,6 +2,7 @@
 package missive
 
 import (
+	"missive/agree"
 	"missive/api"
 	"missive/cipher"
 	"missive/digest"
@@ -52,10 +53,24 @@ func Unclose(key string, nonce string, title string, closed string) (string, api
 }
 
 // Public tells a public key (P4).
-func Public(secret string) (string, api.Errno) { return "", api.OK }
+func Public(secret string) (string, api.Errno) {
+	if notKeys(secret) {
+		return "", api.ErrSize
+	}
+	return agree.Public(secret), api.OK
+}
 
 // Agree tells what two agree upon (P4).
-func Agree(secret string, point string) (string, api.Errno) { return "", api.OK }
+func Agree(secret string, point string) (string, api.Errno) {
+	if notKeys(secret, point) {
+		return "", api.ErrSize
+	}
+	agreed := agree.Upon(secret, point)
+	if agreed == string(make([]byte, api.KeySize)) {
+		return "", api.ErrPoint
+	}
+	return agreed, api.OK
+}
 
 // Identity tells an identity (P5).
 func Identity(seed string) (string, api.Errno) { return "", api.OK }
@@ -82,7 +97,17 @@ func Read(text string) (string, int, api.Errno) { return "", 0, api.OK }
 
 // cannotClose tells whether the size of one of them is such that no data is closed with it.
 func cannotClose(key string, nonce string, title string) bool {
-	return len(key) != api.KeySize || len(nonce) != api.NonceSize || tooLong(api.MaxLetter, title)
+	return notKeys(key) || len(nonce) != api.NonceSize || tooLong(api.MaxLetter, title)
+}
+
+// notKeys tells whether one of the texts has not the size of a key.
+func notKeys(texts ...string) bool {
+	for _, text := range texts {
+		if len(text) != api.KeySize {
+			return true
+		}
+	}
+	return false
 }
 
 // tooLong tells whether one of the texts has more bytes than the limit.
