@@ -20,7 +20,7 @@ func Upon(secret, point string) string { return withNumber(secret, field.Of(poin
 type ladder struct{ a, b, c, d field.Number }
 
 func withNumber(secret string, u field.Number) string {
-	key := changed(secret)
+	key := Changed(secret)
 	rungs := ladder{a: field.Number{1}, c: u, d: field.Number{1}}
 	for at := highestBit; at >= 0; at-- {
 		bit := uint64(key[at/8]>>(at%8)) & 1
@@ -29,13 +29,12 @@ func withNumber(secret string, u field.Number) string {
 	return rungs.a.Times(rungs.b.Inverse()).Bytes()
 }
 
-// changed is a secret with the bits that all have in common.
-func changed(secret string) [field.Size]byte {
-	var key [field.Size]byte
-	copy(key[:], secret)
+// Changed is a secret with the bits that all have in common.
+func Changed(secret string) string {
+	key := []byte(secret)
 	key[0] &= 248
 	key[31] = key[31]&63 | 64
-	return key
+	return string(key)
 }
 
 func (l ladder) swapped(bit uint64) ladder {

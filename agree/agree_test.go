@@ -7,12 +7,12 @@ import (
 )
 
 func TestChanged(t *testing.T) {
-	full := changed(strings.Repeat("\xff", 32))
-	if full[0] != 248 || full[31] != 127 || string(full[1:31]) != strings.Repeat("\xff", 30) {
+	full := Changed(strings.Repeat("\xff", 32))
+	if full[0] != 248 || full[31] != 127 || full[1:31] != strings.Repeat("\xff", 30) {
 		t.Errorf("of all bits: %x", full)
 	}
-	empty := changed(strings.Repeat("\x00", 32))
-	if empty[31] != 64 || string(empty[:31]) != strings.Repeat("\x00", 31) {
+	empty := Changed(strings.Repeat("\x00", 32))
+	if empty[31] != 64 || empty[:31] != strings.Repeat("\x00", 31) {
 		t.Errorf("of no bits: %x", empty)
 	}
 }

@@ -64,6 +64,12 @@ func (a Number) Minus(b Number) Number {
 	return a.carried()
 }
 
+// Negated is 0 less the number.
+func (a Number) Negated() Number { return Number{}.Minus(a) }
+
+// LowestBit is that of the number below p: 0, if it is even, else 1.
+func (a Number) LowestBit() byte { return byte(a.lowest()[0] & 1) }
+
 // Swap answers both numbers, a first if the bit is 0, b first if it is 1.
 func Swap(bit uint64, a, b Number) (Number, Number) {
 	// The bit may be one of a secret: no branch hangs on it, so that how long this takes tells nothing.

@@ -190,6 +190,22 @@ func TestSumAndDifferenceAtAllLimits(t *testing.T) {
 	}
 }
 
+func TestNegated(t *testing.T) {
+	for _, a := range append(somewhat(), edges()...) {
+		check(t, "negated", a.Negated(), new(big.Int).Neg(whole(a)))
+		check(t, "sum with the negated", a.Plus(a.Negated()), new(big.Int))
+	}
+}
+
+// The lowest bit is that of the number below p: p is odd, so that it says how often p is held.
+func TestLowestBit(t *testing.T) {
+	for _, a := range append(somewhat(), edges()...) {
+		if got, want := uint(a.LowestBit()), reduced(whole(a)).Bit(0); got != want {
+			t.Fatalf("%x: %d", a, got)
+		}
+	}
+}
+
 func TestSwap(t *testing.T) {
 	all := somewhat()
 	for i, a := range all {

@@ -52,6 +52,24 @@ func (a Number) Inverse() Number {
 	return a.ones(250).squares(5).Times(eleventh)
 }
 
+// Root is one of the numbers whose square is this, if there are such numbers.
+func (a Number) Root() (Number, bool) {
+	// To the power of (p + 3) / 8, which is 2 (2^251 - 1): if a has roots, the square of that is a or -a.
+	root := a.ones(251).Square()
+	if root.Square().lowest() != a.lowest() {
+		root = root.Times(rootOfMinusOne())
+	}
+	if root.Square().lowest() != a.lowest() {
+		return Number{}, false
+	}
+	return root, true
+}
+
+// rootOfMinusOne is the even number whose square is p - 1.
+func rootOfMinusOne() Number {
+	return Number{0x61b274a0ea0b0, 0x0d5a5fc8f189d, 0x7ef5e9cbd0c60, 0x78595a6804c9e, 0x2b8324804fc1d}
+}
+
 // ones is the number to the power of 2^n - 1, n being at least 1.
 func (a Number) ones(n int) Number {
 	if n == 1 {

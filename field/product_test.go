@@ -74,8 +74,52 @@ func TestInverse(t *testing.T) {
 
 func TestPowersOfOnes(t *testing.T) {
 	a := Number{3, 1, 4, 1, 5}
-	for _, n := range []uint{1, 2, 3, 4, 5, 31, 62, 125, 250} {
+	for _, n := range []uint{1, 2, 3, 4, 5, 31, 62, 125, 250, 251} {
 		exponent := new(big.Int).Sub(twoTo(n), big.NewInt(1))
 		check(t, "power", a.ones(int(n)), new(big.Int).Exp(whole(a), exponent, modulus()))
+	}
+}
+
+func TestRootOfMinusOne(t *testing.T) {
+	check(t, "square", rootOfMinusOne().Square(), big.NewInt(-1))
+	if rootOfMinusOne().LowestBit() != 0 {
+		t.Error("it is odd")
+	}
+}
+
+func TestRoots(t *testing.T) {
+	all := somewhat()
+	for n := range uint64(60) {
+		all = append(all, Number{n}, Number{n}.Negated())
+	}
+	for _, a := range all {
+		root, found := a.Root()
+		if want := new(big.Int).ModSqrt(reduced(whole(a)), modulus()) != nil; found != want {
+			t.Errorf("%x: a root was found: %v", reduced(whole(a)), found)
+		}
+		if found {
+			check(t, "square of the root", root.Square(), whole(a))
+		} else if root != (Number{}) {
+			t.Errorf("%x beside no root", root)
+		}
+	}
+}
+
+// A square has a root, and so has 0 less a square; twice one has none, for 2 has none.
+func TestRootsOfSquares(t *testing.T) {
+	chance := rand.New(rand.NewSource(2))
+	for range 200 {
+		number := new(big.Int).Rand(chance, modulus())
+		a := Of(bytesOf(number))
+		for _, square := range []Number{a.Square(), a.Square().Negated()} {
+			root, found := square.Root()
+			if !found {
+				t.Fatalf("%x has no root", square)
+			}
+			check(t, "square of the root", root.Square(), whole(square))
+			if root, found := square.Times(Number{2}).Root(); found {
+				t.Fatalf("twice %x has the root %x", square, root)
+			}
+		}
 	}
 }

@@ -6,6 +6,7 @@ import (
 	"missive/api"
 	"missive/cipher"
 	"missive/digest"
+	"missive/sign"
 )
 
 // Digest tells a digest (P2).
@@ -73,13 +74,28 @@ func Agree(secret string, point string) (string, api.Errno) {
 }
 
 // Identity tells an identity (P5).
-func Identity(seed string) (string, api.Errno) { return "", api.OK }
+func Identity(seed string) (string, api.Errno) {
+	if notKeys(seed) {
+		return "", api.ErrSize
+	}
+	return sign.Identity(seed), api.OK
+}
 
 // Sign signs data (P5).
-func Sign(seed string, data string) (string, api.Errno) { return "", api.OK }
+func Sign(seed string, data string) (string, api.Errno) {
+	if notKeys(seed) || tooLong(api.MaxLetter, data) {
+		return "", api.ErrSize
+	}
+	return sign.Of(seed, data), api.OK
+}
 
 // Verify tells whether a signature is right (P5).
-func Verify(identity string, data string, signature string) bool { return false }
+func Verify(identity string, data string, signature string) bool {
+	if notKeys(identity) || tooLong(api.MaxLetter, data) || len(signature) != api.SignSize {
+		return false
+	}
+	return sign.Right(identity, data, signature)
+}
 
 // Seal seals a letter (P6).
 func Seal(seed string, readers []string, dice string, data string) (string, api.Errno) {
