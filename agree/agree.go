@@ -13,8 +13,11 @@ const (
 // Public is the public key of a secret.
 func Public(secret string) string { return withNumber(secret, field.Number{base}) }
 
-// Upon is what a secret and a point, of 32 bytes each, agree upon.
-func Upon(secret, point string) string { return withNumber(secret, field.Of(point)) }
+// Upon is what a secret and a point, of 32 bytes each, agree upon, and whether it is of use: 32 bytes 0 are not, for anyone knows them.
+func Upon(secret, point string) (string, bool) {
+	agreed := withNumber(secret, field.Of(point))
+	return agreed, agreed != field.Number{}.Bytes()
+}
 
 // A ladder holds two multiples of a point as quotients, a / b and c / d, which are one point apart.
 type ladder struct{ a, b, c, d field.Number }

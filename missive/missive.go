@@ -6,6 +6,8 @@ import (
 	"missive/api"
 	"missive/cipher"
 	"missive/digest"
+	"missive/letters"
+	"missive/lines"
 	"missive/sign"
 )
 
@@ -66,8 +68,8 @@ func Agree(secret string, point string) (string, api.Errno) {
 	if notKeys(secret, point) {
 		return "", api.ErrSize
 	}
-	agreed := agree.Upon(secret, point)
-	if agreed == string(make([]byte, api.KeySize)) {
+	agreed, useful := agree.Upon(secret, point)
+	if !useful {
 		return "", api.ErrPoint
 	}
 	return agreed, api.OK
@@ -99,17 +101,45 @@ func Verify(identity string, data string, signature string) bool {
 
 // Seal seals a letter (P6).
 func Seal(seed string, readers []string, dice string, data string) (string, api.Errno) {
-	return "", api.OK
+	if notKeys(seed) || len(dice) != api.DiceSize || tooLong(api.MaxData, data) {
+		return "", api.ErrSize
+	}
+	if len(readers) == 0 || len(readers) > api.MaxReaders {
+		return "", api.ErrMany
+	}
+	return letters.Seal(seed, readers, dice, data)
 }
 
 // Open opens a letter (P7).
-func Open(secret string, letter string) (api.Letter, api.Errno) { return api.Letter{}, api.OK }
+func Open(secret string, letter string) (api.Letter, api.Errno) {
+	if notKeys(secret) {
+		return api.Letter{}, api.ErrSize
+	}
+	return letters.Open(secret, letter)
+}
 
 // Write writes a letter as a text (P8).
-func Write(bytes string) (string, api.Errno) { return "", api.OK }
+func Write(bytes string) (string, api.Errno) {
+	if tooLong(api.MaxLetter, bytes) {
+		return "", api.ErrSize
+	}
+	return lines.Write(bytes), api.OK
+}
 
 // Read reads a letter's text (P8).
-func Read(text string) (string, int, api.Errno) { return "", 0, api.OK }
+func Read(text string) (string, int, api.Errno) {
+	if tooLong(api.MaxText, text) {
+		return "", 0, api.ErrSize
+	}
+	bytes, line, right := lines.Read(text)
+	if !right {
+		return "", line, api.ErrText
+	}
+	if tooLong(api.MaxLetter, bytes) {
+		return "", 0, api.ErrSize
+	}
+	return bytes, 0, api.OK
+}
 
 // cannotClose tells whether the size of one of them is such that no data is closed with it.
 func cannotClose(key string, nonce string, title string) bool {
